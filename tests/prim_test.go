@@ -227,17 +227,24 @@ func TestSmallThingsShareNoMemoryWithTheArgument(t *testing.T) {
 	}
 }
 
+// checkListsApart spoils the places of each ring in turn, and wants those of
+// the others to stay.
+func checkListsApart(t *testing.T, name string, got impl.Store) {
+	t.Helper()
+	for ring := range got.Rings {
+		want := copied(got)
+		kept := want.Rings[ring].Places
+		spoil(got.Rings[ring].Places)
+		want.Rings[ring].Places = got.Rings[ring].Places
+		checkStore(t, name+", the other places", got, want)
+		got.Rings[ring].Places = kept
+	}
+}
+
 func TestSmallThingsShareNoMemoryWithinAnAnswer(t *testing.T) {
 	for _, thing := range append(onUsedStore(), refusedOnUsedStore()...) {
 		got, _ := thing.do(usedStore())
-		for ring := range got.Rings {
-			want := copied(got)
-			kept := want.Rings[ring].Places
-			spoil(got.Rings[ring].Places)
-			want.Rings[ring].Places = got.Rings[ring].Places
-			checkStore(t, thing.name+", the other places", got, want)
-			got.Rings[ring].Places = kept
-		}
+		checkListsApart(t, thing.name, got)
 	}
 }
 
