@@ -1,7 +1,6 @@
 package tests
 
 import (
-	"math"
 	"slices"
 	"testing"
 
@@ -10,97 +9,13 @@ import (
 
 const mostTries = 4
 
-// putter fits usedStore, and has no field that is zero, so that whatever is
-// not kept, or not made zero, shows.
-func putter(at int64) impl.Hand {
-	return impl.Hand{At: at, Value: 7, Ring: 1, Ticket: 9, Seen: full(9, 3), Tries: 1, Spare: 3, Again: true, Reply: lastReply}
-}
+var puttingOn stepper = impl.PutStep
 
-func restedWith(reply, spare int64) impl.Hand {
-	return impl.Hand{Spare: spare, Reply: reply}
-}
-
-// A putCase is a step from usedStore and putter(at), each but for its change,
-// to the same, each but for its other change besides. The Store is as it is
-// where there is no such change.
-type putCase struct {
-	name      string
-	at        int64
-	store     func(s *impl.Store)
-	hand      func(h *impl.Hand)
-	thenStore func(s *impl.Store)
-	thenHand  func(h *impl.Hand)
-}
-
-func (c putCase) given() (impl.Store, impl.Hand) {
-	s, h := usedStore(), putter(c.at)
-	if c.store != nil {
-		c.store(&s)
-	}
-	if c.hand != nil {
-		c.hand(&h)
-	}
-	return s, h
-}
-
-func (c putCase) wanted() (impl.Store, impl.Hand) {
-	s, h := c.given()
-	if c.thenStore != nil {
-		c.thenStore(&s)
-	}
-	c.thenHand(&h)
-	return s, h
-}
-
-func atOnly(at int64) func(h *impl.Hand) {
-	return func(h *impl.Hand) { h.At = at }
-}
-
-func onRing(ring int64) func(h *impl.Hand) {
-	return func(h *impl.Hand) { h.Ring = ring }
-}
-
-func ringAndTicket(ring, ticket int64) func(h *impl.Hand) {
-	return func(h *impl.Hand) { h.Ring, h.Ticket = ring, ticket }
-}
-
-func ringAndSpare(ring, spare int64) func(h *impl.Hand) {
-	return func(h *impl.Hand) { h.Ring, h.Spare = ring, spare }
-}
-
-func ticketAndTries(ticket, tries int64) func(h *impl.Hand) {
-	return func(h *impl.Hand) { h.Ticket, h.Tries = ticket, tries }
-}
-
-func triesAt(tries, at int64) func(h *impl.Hand) {
-	return func(h *impl.Hand) { h.Tries, h.At = tries, at }
-}
-
-func rest(reply, spare int64) func(h *impl.Hand) {
-	return func(h *impl.Hand) { *h = restedWith(reply, spare) }
-}
-
-func lastIs(ring int64) func(s *impl.Store) {
-	return func(s *impl.Store) { s.Last = ring }
-}
-
-func tailIs(ring, tail int64) func(s *impl.Store) {
-	return func(s *impl.Store) { s.Rings[ring].Tail = tail }
-}
-
-func placeIs(ring, at int64, p impl.Place) func(s *impl.Store) {
-	return func(s *impl.Store) { s.Rings[ring].Places[at] = p }
-}
-
-func ringIs(ring int64, r impl.Ring) func(s *impl.Store) {
-	return func(s *impl.Store) { s.Rings[ring] = r }
-}
-
-func lastCases() []putCase {
+func lastCases() []stepCase {
 	toNext := func(ring int64) func(h *impl.Hand) {
 		return func(h *impl.Hand) { h.Ring, h.At = ring, impl.AtNext }
 	}
-	return []putCase{
+	return []stepCase{
 		{"from another ring", impl.AtLast, nil, onRing(1), nil, toNext(2)},
 		{"from Last itself", impl.AtLast, nil, onRing(2), nil, toNext(2)},
 		{"to ring 0", impl.AtLast, lastIs(0), onRing(3), nil, toNext(0)},
@@ -108,12 +23,11 @@ func lastCases() []putCase {
 	}
 }
 
-func nextCases() []putCase {
+func nextCases() []stepCase {
 	toHelp := func(next int64) func(h *impl.Hand) {
 		return func(h *impl.Hand) { h.Ticket, h.At = next, impl.AtHelp }
 	}
-	leadsToRing0 := func(s *impl.Store) { s.Rings[1].Closed, s.Rings[1].Next = true, 0 }
-	return []putCase{
+	return []stepCase{
 		{"no Next, open", impl.AtNext, nil, onRing(1), nil, atOnly(impl.AtPutTicket)},
 		{"no Next, Closed", impl.AtNext, nil, onRing(2), nil, atOnly(impl.AtPutTicket)},
 		{"no Next, no Spare", impl.AtNext, nil, ringAndSpare(1, -1), nil, atOnly(impl.AtPutTicket)},
@@ -123,8 +37,8 @@ func nextCases() []putCase {
 	}
 }
 
-func helpCases() []putCase {
-	return []putCase{
+func helpCases() []stepCase {
+	return []stepCase{
 		{"Last is r", impl.AtHelp, nil, ringAndTicket(2, 3), lastIs(3), atOnly(impl.AtLast)},
 		{"Last is r, to ring 0", impl.AtHelp, nil, ringAndTicket(2, 0), lastIs(0), atOnly(impl.AtLast)},
 		{"Last is r, to r", impl.AtHelp, nil, ringAndTicket(2, 2), nil, atOnly(impl.AtLast)},
@@ -137,11 +51,11 @@ func helpCases() []putCase {
 	}
 }
 
-func putTicketCases() []putCase {
+func putTicketCases() []stepCase {
 	drawn := func(ticket, at int64) func(h *impl.Hand) {
 		return func(h *impl.Hand) { h.Ticket, h.At = ticket, at }
 	}
-	return []putCase{
+	return []stepCase{
 		{"open", impl.AtPutTicket, nil, onRing(1), tailIs(1, 3), drawn(2, impl.AtLook)},
 		{"Closed", impl.AtPutTicket, nil, onRing(2), tailIs(2, 5), drawn(4, impl.AtMake)},
 		{"Closed and linked", impl.AtPutTicket, nil, onRing(0), tailIs(0, 10), drawn(9, impl.AtMake)},
@@ -151,14 +65,14 @@ func putTicketCases() []putCase {
 	}
 }
 
-func lookCases() []putCase {
+func lookCases() []stepCase {
 	saw := func(p impl.Place, at int64) func(h *impl.Hand) {
 		return func(h *impl.Hand) { h.Seen, h.At = p, at }
 	}
 	safe := func(no int64) impl.Place { return impl.Place{Safe: true, No: no} }
 	notSafe := func(no int64) impl.Place { return impl.Place{No: no} }
 	unsafeFull := impl.Place{No: 5, Full: true, Value: 31}
-	return []putCase{
+	return []stepCase{
 		{"Safe, its No at t", impl.AtLook, nil, ringAndTicket(1, 2), nil, saw(safe(2), impl.AtPut)},
 		{"Safe, its No below t", impl.AtLook, nil, ringAndTicket(1, 3), nil, saw(safe(0), impl.AtPut)},
 		{"Safe, its No above t", impl.AtLook, placeIs(1, 2, safe(5)), ringAndTicket(1, 2), nil, saw(safe(5), impl.AtCheck)},
@@ -174,19 +88,19 @@ func lookCases() []putCase {
 	}
 }
 
-func headCases() []putCase {
-	return []putCase{
+func headCases() []stepCase {
+	return []stepCase{
 		{"Head above t", impl.AtHead, nil, ringAndTicket(0, 6), nil, atOnly(impl.AtCheck)},
 		{"Head at t", impl.AtHead, nil, ringAndTicket(0, 7), nil, atOnly(impl.AtPut)},
 		{"Head below t", impl.AtHead, nil, ringAndTicket(0, 8), nil, atOnly(impl.AtPut)},
 		{"t is 0", impl.AtHead, nil, ringAndTicket(0, 0), nil, atOnly(impl.AtCheck)},
 		{"t is the greatest", impl.AtHead, nil, ringAndTicket(0, mostNo), nil, atOnly(impl.AtPut)},
 		{"Head of that ring, not of another", impl.AtHead, nil, ringAndTicket(3, 3), nil, atOnly(impl.AtPut)},
-		{"Head and t 0", impl.AtHead, func(s *impl.Store) { s.Rings[1].Head = 0 }, ringAndTicket(1, 0), nil, atOnly(impl.AtPut)},
+		{"Head and t 0", impl.AtHead, headIs(1, 0), ringAndTicket(1, 0), nil, atOnly(impl.AtPut)},
 	}
 }
 
-func putCases() []putCase {
+func putCases() []stepCase {
 	has := func(ring, ticket int64, seen impl.Place) func(h *impl.Hand) {
 		return func(h *impl.Hand) { h.Ring, h.Ticket, h.Seen = ring, ticket, seen }
 	}
@@ -195,7 +109,7 @@ func putCases() []putCase {
 	}
 	safe0 := impl.Place{Safe: true}
 	done := rest(impl.ReDone, 3)
-	return []putCase{
+	return []stepCase{
 		{"seen, its No below t", impl.AtPut, nil, has(1, 3, safe0), placeIs(1, 0, full(3, 7)), done},
 		{"seen, its No at t", impl.AtPut, nil, has(1, 0, safe0), placeIs(1, 0, full(0, 7)), done},
 		{"seen, not Safe", impl.AtPut, nil, has(0, 7, impl.Place{No: 4}), placeIs(0, 1, full(7, 7)), done},
@@ -215,8 +129,8 @@ func putCases() []putCase {
 }
 
 // Head of ring 1 is 1 and Round is 3, so a t of 4 is the first too far ahead.
-func checkCases() []putCase {
-	return []putCase{
+func checkCases() []stepCase {
+	return []stepCase{
 		{"one below Round", impl.AtCheck, nil, ticketAndTries(3, 0), nil, triesAt(1, impl.AtPutTicket)},
 		{"at Round", impl.AtCheck, nil, ticketAndTries(4, 0), nil, triesAt(1, impl.AtClose)},
 		{"above Round", impl.AtCheck, nil, ticketAndTries(5, 0), nil, triesAt(1, impl.AtClose)},
@@ -232,23 +146,23 @@ func checkCases() []putCase {
 	}
 }
 
-func closeCases() []putCase {
+func closeCases() []stepCase {
 	closed := func(s *impl.Store) { s.Rings[1].Closed = true }
-	return []putCase{
+	return []stepCase{
 		{"open", impl.AtClose, nil, onRing(1), closed, atOnly(impl.AtMake)},
 		{"Closed", impl.AtClose, nil, onRing(2), nil, atOnly(impl.AtMake)},
 		{"Closed and linked", impl.AtClose, nil, onRing(0), nil, atOnly(impl.AtMake)},
 	}
 }
 
-func makeCases() []putCase {
+func makeCases() []stepCase {
 	seeded := seededRing(3, 7)
 	added := func(s *impl.Store) { s.Rings = append(s.Rings, seeded) }
 	noMore := func(s *impl.Store) { s.Most = 4 }
 	spareAt := func(spare, at int64) func(h *impl.Hand) {
 		return func(h *impl.Hand) { h.Spare, h.At = spare, at }
 	}
-	return []putCase{
+	return []stepCase{
 		{"a Spare", impl.AtMake, nil, nil, ringIs(3, seeded), atOnly(impl.AtLink)},
 		{"a Spare, as many rings as Most", impl.AtMake, noMore, nil, ringIs(3, seeded), atOnly(impl.AtLink)},
 		{"a Spare that is ring 0, linked", impl.AtMake, nil, ringAndSpare(2, 0), ringIs(0, seeded), atOnly(impl.AtLink)},
@@ -259,12 +173,12 @@ func makeCases() []putCase {
 	}
 }
 
-func linkCases() []putCase {
+func linkCases() []stepCase {
 	linked := func(next int64) func(s *impl.Store) {
 		return func(s *impl.Store) { s.Rings[2].Next = next }
 	}
 	notDone := triesAt(0, impl.AtLast)
-	return []putCase{
+	return []stepCase{
 		{"no Next", impl.AtLink, nil, ringAndSpare(2, 3), linked(3), atOnly(impl.AtSwing)},
 		{"no Next, to an open one", impl.AtLink, nil, ringAndSpare(2, 1), linked(1), atOnly(impl.AtSwing)},
 		{"a Next", impl.AtLink, nil, ringAndSpare(0, 3), nil, notDone},
@@ -278,9 +192,9 @@ func linkCases() []putCase {
 	}
 }
 
-func swingCases() []putCase {
+func swingCases() []stepCase {
 	done := rest(impl.ReDone, -1)
-	return []putCase{
+	return []stepCase{
 		{"Last is r", impl.AtSwing, nil, ringAndSpare(2, 3), lastIs(3), done},
 		{"Last is r, to ring 0", impl.AtSwing, nil, ringAndSpare(2, 0), lastIs(0), done},
 		{"Last is not r", impl.AtSwing, nil, ringAndSpare(1, 3), nil, done},
@@ -291,7 +205,7 @@ func swingCases() []putCase {
 	}
 }
 
-func everyPutCase() []putCase {
+func everyPutCase() []stepCase {
 	return slices.Concat(
 		lastCases(), nextCases(), helpCases(), putTicketCases(), lookCases(), headCases(),
 		putCases(), checkCases(), closeCases(), makeCases(), linkCases(), swingCases(),
@@ -299,49 +213,15 @@ func everyPutCase() []putCase {
 }
 
 // refusedPutCases are those where nothing is done, of a Store and a Hand that
-// are right; thenHand leaves the Hand as it is.
-func refusedPutCases() []putCase {
-	asItIs := func(*impl.Hand) {}
-	var all []putCase
-	for at := int64(0); at <= lastAt; at++ {
-		if !isForPutting(at) {
-			all = append(all, putCase{"it does not put", at, nil, nil, nil, asItIs}, putCase{"it does not put, no such ring", at, nil, onRing(15), nil, asItIs})
-			continue
-		}
-		for _, ring := range []int64{4, 5, 15} {
-			all = append(all,
-				putCase{"no such ring", at, nil, onRing(ring), nil, asItIs},
-				putCase{"no such ring, no Spare", at, nil, ringAndSpare(ring, -1), nil, asItIs},
-				putCase{"neither ring nor Spare", at, nil, ringAndSpare(ring, ring), nil, asItIs})
-		}
-	}
-	return append(all,
-		putCase{"no ticket left, open", impl.AtPutTicket, tailIs(1, mostNo), onRing(1), nil, asItIs},
-		putCase{"no ticket left, Closed", impl.AtPutTicket, tailIs(2, mostNo), onRing(2), nil, asItIs},
-		putCase{"no more Tries", impl.AtCheck, nil, ticketAndTries(3, mostNo), nil, asItIs},
-		putCase{"no more Tries, too far ahead", impl.AtCheck, nil, ticketAndTries(4, mostNo), nil, asItIs},
-		putCase{"no such Spare", impl.AtMake, nil, ringAndSpare(1, 4), nil, asItIs},
-		putCase{"no such Spare, by far", impl.AtMake, nil, ringAndSpare(1, 15), nil, asItIs})
-}
-
-func checkPutStep(t *testing.T, name string, s impl.Store, h impl.Hand, wantStore impl.Store, wantHand impl.Hand, want bool) {
-	t.Helper()
-	got, hand, is := impl.PutStep(s, h)
-	checkStore(t, name, got, wantStore)
-	checkHand(t, name, hand, is, wantHand, want)
-}
-
-func checkPutCase(t *testing.T, c putCase, want bool) {
-	t.Helper()
-	s, h := c.given()
-	if !impl.StoreOk(s) || !impl.HandOk(h) {
-		t.Fatalf("At %d, %s: %+v or %+v is not right", c.at, c.name, s, h)
-	}
-	then, hand := c.wanted()
-	checkPutStep(t, c.name, s, h, then, hand, want)
-	if t.Failed() {
-		t.Fatalf("At %d, %s", c.at, c.name)
-	}
+// are right.
+func refusedPutCases() []stepCase {
+	return append(refusedAtOthers(isForPutting),
+		stepCase{"no ticket left, open", impl.AtPutTicket, tailIs(1, mostNo), onRing(1), nil, asItIs},
+		stepCase{"no ticket left, Closed", impl.AtPutTicket, tailIs(2, mostNo), onRing(2), nil, asItIs},
+		stepCase{"no more Tries", impl.AtCheck, nil, ticketAndTries(3, mostNo), nil, asItIs},
+		stepCase{"no more Tries, too far ahead", impl.AtCheck, nil, ticketAndTries(4, mostNo), nil, asItIs},
+		stepCase{"no such Spare", impl.AtMake, nil, ringAndSpare(1, 4), nil, asItIs},
+		stepCase{"no such Spare, by far", impl.AtMake, nil, ringAndSpare(1, 15), nil, asItIs})
 }
 
 func TestMaxTries(t *testing.T) {
@@ -350,17 +230,9 @@ func TestMaxTries(t *testing.T) {
 	}
 }
 
-func TestPutStep(t *testing.T) {
-	for _, c := range everyPutCase() {
-		checkPutCase(t, c, true)
-	}
-}
+func TestPutStep(t *testing.T) { puttingOn.checkCases(t, everyPutCase(), true) }
 
-func TestPutStepRefused(t *testing.T) {
-	for _, c := range refusedPutCases() {
-		checkPutCase(t, c, false)
-	}
-}
+func TestPutStepRefused(t *testing.T) { puttingOn.checkCases(t, refusedPutCases(), false) }
 
 // What a step does not name stays, whatever it is; but for resting, which is
 // told by the cases above.
@@ -374,7 +246,7 @@ func TestPutStepKeepsWhatItDoesNotName(t *testing.T) {
 				if hand.At != impl.AtRest {
 					hand.Again, hand.Reply = again, reply
 				}
-				checkPutStep(t, c.name, s, h, then, hand, true)
+				puttingOn.check(t, c.name, s, h, then, hand, true)
 			}
 		}
 	}
@@ -389,47 +261,30 @@ func TestPutStepOfEveryRound(t *testing.T) {
 			h := impl.Hand{At: impl.AtLook, Value: 7, Ticket: ticket, Spare: -1}
 			want := h
 			want.At, want.Seen = impl.AtPut, seen
-			checkPutStep(t, "AtLook", s, h, s, want, true)
+			puttingOn.check(t, "AtLook", s, h, s, want, true)
 			then := copied(s)
 			then.Rings[0].Places[at] = full(ticket, 7)
-			checkPutStep(t, "AtPut", s, want, then, restedWith(impl.ReDone, -1), true)
+			puttingOn.check(t, "AtPut", s, want, then, restedWith(impl.ReDone, -1), true)
 			h.At = impl.AtCheck
 			want = h
 			want.Tries, want.At = 1, impl.AtPutTicket
 			if ticket >= round {
 				want.At = impl.AtClose
 			}
-			checkPutStep(t, "AtCheck", s, h, s, want, true)
+			puttingOn.check(t, "AtCheck", s, h, s, want, true)
 			h.At = impl.AtMake
 			want = h
 			want.At, want.Spare = impl.AtLink, 1
 			then = copied(s)
 			then.Rings = append(then.Rings, seededRing(round, 7))
-			checkPutStep(t, "AtMake", s, h, then, want, true)
+			puttingOn.check(t, "AtMake", s, h, then, want, true)
 		}
 	}
 }
 
-func TestPutStepOfWhatIsNoStore(t *testing.T) {
-	for name, s := range wrongStores() {
-		for at := range int64(lastAt + 1) {
-			for _, ring := range []int64{0, 1, 2, 3, 15} {
-				h := putter(at)
-				h.Ring, h.Spare = ring, -1
-				checkPutStep(t, name, s, h, impl.Store{}, impl.Hand{}, false)
-			}
-		}
-	}
-}
+func TestPutStepOfWhatIsNoStore(t *testing.T) { puttingOn.checkNoStores(t) }
 
-func TestPutStepOfWhatIsNoHand(t *testing.T) {
-	for _, h := range noHands() {
-		checkPutStep(t, "no hand", usedStore(), h, impl.Store{}, impl.Hand{}, false)
-		for name, s := range wrongStores() {
-			checkPutStep(t, "no hand, "+name, s, h, impl.Store{}, impl.Hand{}, false)
-		}
-	}
-}
+func TestPutStepOfWhatIsNoHand(t *testing.T) { puttingOn.checkNoHands(t) }
 
 // What would be put is not right where the Value is none, or the Ticket: then
 // the Hand is not right either.
@@ -438,100 +293,26 @@ func TestPutStepOfNoParcel(t *testing.T) {
 	for _, value := range append(outside(1, mostValue), 0) {
 		h := right
 		h.Value = value
-		checkPutStep(t, "no Value", usedStore(), h, impl.Store{}, impl.Hand{}, false)
+		puttingOn.checkZero(t, "no Value", usedStore(), h)
 	}
 	for _, ticket := range outside(0, mostNo) {
 		h := right
 		h.Ticket = ticket
-		checkPutStep(t, "no Ticket", usedStore(), h, impl.Store{}, impl.Hand{}, false)
+		puttingOn.checkZero(t, "no Ticket", usedStore(), h)
 	}
 }
 
-func TestPutStepAtTheEndsOfNumbers(t *testing.T) {
-	for _, number := range []int64{math.MinInt64, math.MaxInt64} {
-		h := impl.Hand{At: number, Value: number, Ring: number, Ticket: number, Tries: number, Spare: number, Reply: number}
-		checkPutStep(t, "all fields", usedStore(), h, impl.Store{}, impl.Hand{}, false)
-		for at := range int64(lastAt + 1) {
-			h.At = at
-			checkPutStep(t, "all fields but At", usedStore(), h, impl.Store{}, impl.Hand{}, false)
-		}
-	}
-}
+func TestPutStepAtTheEndsOfNumbers(t *testing.T) { puttingOn.checkEndsOfNumbers(t) }
 
 func TestPutStepSharesNoMemoryWithTheArgument(t *testing.T) {
-	for _, c := range append(everyPutCase(), refusedPutCases()...) {
-		s, h := c.given()
-		s = roomy(s)
-		kept := copied(withRoom(s))
-		want, _ := c.wanted()
-		got, _, _ := impl.PutStep(s, h)
-		checkStore(t, c.name+", the argument behind the step", withRoom(s), kept)
-		second, _, _ := impl.PutStep(s, h)
-		spoilStore(got)
-		checkStore(t, c.name+", the argument behind a change of the answer", withRoom(s), kept)
-		checkStore(t, c.name+", another answer behind a change of the first", second, want)
-		spoilStore(s)
-		checkStore(t, c.name+", the answer behind a change of the argument", second, want)
-	}
+	puttingOn.checkApartFromTheArgument(t, append(everyPutCase(), refusedPutCases()...))
 }
 
-// Two rings of the argument may have one list of places; those of the answer
-// may not.
 func TestPutStepSharesNoMemoryWithinAnAnswer(t *testing.T) {
-	for _, c := range append(everyPutCase(), refusedPutCases()...) {
-		got, _, _ := impl.PutStep(c.given())
-		checkListsApart(t, c.name, got)
-	}
-	for at := int64(firstForPutting); at <= lastForPutting; at++ {
-		for ring := range int64(2) {
-			s := linkedStore(2, 3, -1, -1)
-			s.Rings[1].Places = s.Rings[0].Places
-			h := impl.Hand{At: at, Value: 7, Ring: ring, Seen: impl.Place{Safe: true}, Spare: -1}
-			got, _, _ := impl.PutStep(s, h)
-			checkStore(t, "the argument", s, linkedStore(2, 3, -1, -1))
-			checkListsApart(t, "rings that share their places", got)
-		}
-	}
+	puttingOn.checkApartWithinAnAnswer(t, append(everyPutCase(), refusedPutCases()...))
 }
 
-func TestPutStepLeavesWhatIsNotRight(t *testing.T) {
-	for name, s := range wrongStores() {
-		for at := range int64(lastAt + 1) {
-			s = roomy(copied(s))
-			kept := copied(withRoom(s))
-			impl.PutStep(s, putter(at))
-			checkStore(t, "the argument, "+name, withRoom(s), kept)
-		}
-	}
-}
-
-// changesOf counts the small things by which two stores differ: a ring that
-// was seeded anew is one.
-func changesOf(a, b impl.Store, spare int64) int64 {
-	changes := int64(len(b.Rings) - len(a.Rings))
-	count := func(differs bool) {
-		if differs {
-			changes++
-		}
-	}
-	count(a.First != b.First)
-	count(a.Last != b.Last)
-	for ring, was := range a.Rings {
-		now := b.Rings[ring]
-		if int64(ring) == spare && sameRing(now, seededRing(a.Round, now.Places[0].Value)) {
-			count(!sameRing(was, now))
-			continue
-		}
-		count(was.Head != now.Head)
-		count(was.Tail != now.Tail)
-		count(was.Closed != now.Closed)
-		count(was.Next != now.Next)
-		for at := range was.Places {
-			count(was.Places[at] != now.Places[at])
-		}
-	}
-	return changes
-}
+func TestPutStepLeavesWhatIsNotRight(t *testing.T) { puttingOn.checkLeavesWhatIsNotRight(t) }
 
 // A crowd puts, each one a Value of its own, in turns that a lottery draws;
 // and some take at ring 0, by small things, so that places are left, spoilt
@@ -671,24 +452,6 @@ func TestWhoPutsPutsNoMoreThanOne(t *testing.T) {
 	}
 }
 
-// putAlone steps till it rests, and tells where it was.
-func putAlone(t *testing.T, s impl.Store, h impl.Hand) (impl.Store, impl.Hand, []int64) {
-	t.Helper()
-	var ats []int64
-	for range 100 {
-		if h.At == impl.AtRest {
-			return s, h, ats
-		}
-		ats = append(ats, h.At)
-		var is bool
-		if s, h, is = impl.PutStep(s, h); !is {
-			t.Fatalf("nothing is done: %+v, %+v", s, h)
-		}
-	}
-	t.Fatalf("no end: %+v, %+v", s, h)
-	return s, h, ats
-}
-
 // One alone fills a ring, then sets up another one with its parcel on it, till
 // there are Most.
 func TestOnePutsAlone(t *testing.T) {
@@ -702,7 +465,7 @@ func TestOnePutsAlone(t *testing.T) {
 	for i, ats := range want {
 		h, _ = impl.ToPut(h, int64(i+1))
 		var was []int64
-		s, h, was = putAlone(t, s, h)
+		s, h, was = puttingOn.alone(t, s, h)
 		checkList(t, "where it was", was, ats)
 		reply := int64(impl.ReDone)
 		if i > 3 {
@@ -728,10 +491,10 @@ func TestWhoIsLateWithARingKeepsIt(t *testing.T) {
 		s, hands[who], _ = impl.PutStep(s, hands[who])
 	}
 	s, hands[0], _ = impl.PutStep(s, hands[0]) // linked, and not yet swung
-	s, late, ats := putAlone(t, s, hands[1])
+	s, late, ats := puttingOn.alone(t, s, hands[1])
 	checkList(t, "who is late", ats, []int64{11, 1, 2, 3, 1, 2, 4, 5, 7})
 	checkHand(t, "who is late", late, true, restedWith(impl.ReDone, 2), true)
-	s, first, ats := putAlone(t, s, hands[0])
+	s, first, ats := puttingOn.alone(t, s, hands[0])
 	checkList(t, "who was first", ats, []int64{12})
 	checkHand(t, "who was first", first, true, restedWith(impl.ReDone, -1), true)
 	checkList(t, "the chain", impl.ChainOf(s), []int64{0, 1})
