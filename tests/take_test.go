@@ -513,7 +513,7 @@ func (m *market) busy() []int {
 
 // run goes on till all rest. One of them has most of the turns, now this one
 // and now that one, so that others are late.
-func (m *market) run(t *testing.T) {
+func (m *market) run(t *testing.T, turn func(t *testing.T, who int)) {
 	t.Helper()
 	for busy, turns := m.busy(), 0; len(busy) > 0; busy, turns = m.busy(), turns+1 {
 		if turns == 5000 {
@@ -522,7 +522,7 @@ func (m *market) run(t *testing.T) {
 		who := busy[m.draw(0, int64(len(busy)))]
 		for range m.draw(1, 9) {
 			if m.begins > 0 || m.hands[who].At != impl.AtRest {
-				m.turn(t, who)
+				turn(t, who)
 			}
 		}
 	}
@@ -534,7 +534,7 @@ func TestWhoTakesTakesNoMoreThanOne(t *testing.T) {
 	var replies [lastReply + 1]int
 	for seed := range lottery(markets) {
 		m := newMarket(seed*971+3, 5, begins)
-		m.run(t)
+		m.run(t, m.turn)
 		left := append(impl.ValuesIn(m.store), m.got...)
 		slices.Sort(left)
 		slices.Sort(m.put)
