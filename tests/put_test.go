@@ -319,12 +319,12 @@ func TestPutStepLeavesWhatIsNotRight(t *testing.T) { puttingOn.checkLeavesWhatIs
 // and skipped. Who takes may be slow: its ticket waits.
 type crowd struct {
 	lottery
+	tally
 	store   impl.Store
 	hands   []impl.Hand
 	values  []int64
 	tickets []int64
 	taken   []int64
-	steps   [lastAt + 1]int
 }
 
 func newCrowd(seed lottery, n int64) *crowd {
@@ -421,8 +421,7 @@ func (c *crowd) busy() []int64 {
 }
 
 func TestWhoPutsPutsNoMoreThanOne(t *testing.T) {
-	var steps [lastAt + 1]int
-	var replies [lastReply + 1]int
+	var all tally
 	for seed := range lottery(400) {
 		c := newCrowd(seed*977+5, 8)
 		for busy, turns := c.busy(), 0; len(busy) > 0; busy, turns = c.busy(), turns+1 {
@@ -435,20 +434,15 @@ func TestWhoPutsPutsNoMoreThanOne(t *testing.T) {
 			c.step(t, busy[c.draw(0, int64(len(busy)))])
 			c.check(t)
 		}
-		for at, n := range c.steps {
-			steps[at] += n
-		}
+		all.add(c.tally)
 		for _, h := range c.hands {
-			replies[h.Reply]++
+			all.replies[h.Reply]++
 		}
 	}
-	for at := firstForPutting; at <= lastForPutting; at++ {
-		if steps[at] == 0 {
-			t.Errorf("nobody was ever at %d", at)
-		}
-	}
-	if replies[impl.ReDone] == 0 || replies[impl.ReFull] == 0 || replies[impl.ReDone]+replies[impl.ReFull] != 8*400 {
-		t.Errorf("replies %v", replies)
+	all.checkSteps(t, firstForPutting, lastForPutting)
+	done, full := all.replies[impl.ReDone], all.replies[impl.ReFull]
+	if done == 0 || full == 0 || done+full != 8*400 {
+		t.Errorf("replies %v", all.replies)
 	}
 }
 

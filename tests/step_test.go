@@ -266,20 +266,14 @@ func (m *market) stepOne(t *testing.T, who int) {
 }
 
 func TestSeveralWhoFitAndAreSteppedFitThen(t *testing.T) {
-	var steps [lastAt + 1]int
+	var all tally
 	for seed := range lottery(200) {
 		m := newMarket(seed*613+5, 5, 30)
 		m.run(t, m.stepOne)
-		for at, n := range m.steps {
-			steps[at] += n
-		}
+		all.add(m.tally)
 		for _, h := range m.hands {
 			checkIsResting(t, h, true)
 		}
 	}
-	for at := firstForPutting; at <= lastAt; at++ {
-		if steps[at] == 0 {
-			t.Errorf("nobody was ever at %d", at)
-		}
-	}
+	all.checkSteps(t, firstForPutting, lastAt)
 }

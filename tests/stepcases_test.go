@@ -123,6 +123,39 @@ func refusedAtOthers(is func(at int64) bool) []stepCase {
 	return all
 }
 
+// A tally is how often somebody was at each step, and rested with each Reply.
+type tally struct {
+	steps   [lastAt + 1]int
+	replies [lastReply + 1]int
+}
+
+func (all *tally) add(more tally) {
+	for at, n := range more.steps {
+		all.steps[at] += n
+	}
+	for reply, n := range more.replies {
+		all.replies[reply] += n
+	}
+}
+
+func (all tally) checkSteps(t *testing.T, first, last int64) {
+	t.Helper()
+	for at := first; at <= last; at++ {
+		if all.steps[at] == 0 {
+			t.Errorf("nobody was ever at %d", at)
+		}
+	}
+}
+
+func (all tally) checkReplies(t *testing.T) {
+	t.Helper()
+	for reply := impl.ReDone; reply <= lastReply; reply++ {
+		if all.replies[reply] == 0 {
+			t.Errorf("nobody ever rested with %d", reply)
+		}
+	}
+}
+
 // A stepper is one of the functions by which a Hand does its next thing.
 type stepper func(s impl.Store, h impl.Hand) (impl.Store, impl.Hand, bool)
 

@@ -401,13 +401,12 @@ func TestWhoIsLateAtAPlaceSeesItAgain(t *testing.T) {
 // put being a Value of its own, in turns that a lottery draws.
 type market struct {
 	lottery
-	store   impl.Store
-	hands   []impl.Hand
-	begins  int64
-	put     []int64
-	got     []int64
-	steps   [lastAt + 1]int
-	replies [lastReply + 1]int
+	tally
+	store  impl.Store
+	hands  []impl.Hand
+	begins int64
+	put    []int64
+	got    []int64
 }
 
 func newMarket(seed lottery, hands, begins int64) *market {
@@ -530,8 +529,7 @@ func (m *market) run(t *testing.T, turn func(t *testing.T, who int)) {
 
 func TestWhoTakesTakesNoMoreThanOne(t *testing.T) {
 	const markets, begins = 400, 30
-	var steps [lastAt + 1]int
-	var replies [lastReply + 1]int
+	var all tally
 	for seed := range lottery(markets) {
 		m := newMarket(seed*971+3, 5, begins)
 		m.run(t, m.turn)
@@ -539,26 +537,15 @@ func TestWhoTakesTakesNoMoreThanOne(t *testing.T) {
 		slices.Sort(left)
 		slices.Sort(m.put)
 		checkList(t, "what was got or is there, of what was put", left, m.put)
-		for at, n := range m.steps {
-			steps[at] += n
-		}
-		for reply, n := range m.replies {
-			replies[reply] += n
-		}
+		all.add(m.tally)
 	}
-	for at := firstForPutting; at <= lastAt; at++ {
-		if steps[at] == 0 {
-			t.Errorf("nobody was ever at %d", at)
-		}
+	all.checkSteps(t, firstForPutting, lastAt)
+	all.checkReplies(t)
+	rested := 0
+	for _, n := range all.replies {
+		rested += n
 	}
-	all := 0
-	for reply := impl.ReDone; reply <= lastReply; reply++ {
-		all += replies[reply]
-		if replies[reply] == 0 {
-			t.Errorf("nobody ever rested with %d", reply)
-		}
-	}
-	if all != markets*begins {
-		t.Errorf("replies %v", replies)
+	if rested != markets*begins {
+		t.Errorf("replies %v", all.replies)
 	}
 }
