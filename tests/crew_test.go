@@ -13,8 +13,6 @@ const (
 	mostHands = 4
 	mostJobs  = 4
 	mostTurns = 400
-	// mostEvents is chapter 11's, but a crew is asked for its story as well.
-	mostEvents = 16
 )
 
 func sameCrew(a, b impl.Crew) bool {
@@ -243,56 +241,6 @@ func TestCrewOkAsksEachHand(t *testing.T) {
 			checkCrewOk(t, "no hand", changedCrew(c, handIs(who, h)), false)
 		}
 	}
-}
-
-func rightEvents() []impl.Event {
-	return []impl.Event{
-		{Put: true, Value: 1, Reply: impl.ReDone},
-		{Put: true, Value: mostValue, Reply: impl.ReDone, Begin: mostClock, End: mostClock},
-		{Who: 3, Put: true, Value: 1, Reply: impl.ReFull, End: mostClock},
-		{Who: 1, Put: true, Value: mostValue, Reply: impl.ReFull, Begin: 7, End: 7},
-		{Who: 2, Value: 1, Reply: impl.ReGot, Begin: 7, End: 8},
-		{Who: 3, Value: mostValue, Reply: impl.ReGot, Begin: 0, End: 1},
-		{Reply: impl.ReEmpty},
-		{Who: 3, Reply: impl.ReEmpty, Begin: mostClock - 1, End: mostClock},
-	}
-}
-
-// wrongEvents are not as in a story for one reason each.
-func wrongEvents() []impl.Event {
-	var all []impl.Event
-	with := func(e impl.Event, of func(e *impl.Event) *int64, numbers ...int64) {
-		for _, number := range numbers {
-			*of(&e) = number
-			all = append(all, e)
-		}
-	}
-	who := func(e *impl.Event) *int64 { return &e.Who }
-	begin := func(e *impl.Event) *int64 { return &e.Begin }
-	end := func(e *impl.Event) *int64 { return &e.End }
-	value := func(e *impl.Event) *int64 { return &e.Value }
-	reply := func(e *impl.Event) *int64 { return &e.Reply }
-	for _, e := range rightEvents() {
-		with(e, who, outside(0, 3)...)
-		with(e, begin, outside(0, e.End)...)
-		with(e, end, outside(e.Begin, mostClock)...)
-		if e.Reply == impl.ReEmpty {
-			with(e, value, 1, mostValue)
-			with(e, value, outside(0, 0)...)
-			with(e, reply, append(outside(0, lastReply), impl.ReNone, impl.ReDone, impl.ReFull, impl.ReGot)...)
-			continue
-		}
-		with(e, value, noValues()...)
-		if e.Put {
-			with(e, reply, append(outside(0, lastReply), impl.ReNone, impl.ReEmpty, impl.ReGot)...)
-		} else {
-			with(e, reply, append(outside(0, lastReply), impl.ReNone, impl.ReDone, impl.ReFull, impl.ReEmpty)...)
-		}
-		e.Put = !e.Put
-		all = append(all, e)
-	}
-	return append(all, impl.Event{}, impl.Event{Put: true}, impl.Event{Put: true, Reply: impl.ReDone},
-		impl.Event{Put: true, Reply: impl.ReEmpty}, impl.Event{Reply: impl.ReGot})
 }
 
 // A story is asked for by itself: its Events may well be later than the Clock,
