@@ -429,6 +429,17 @@ func TestTakeAlone(t *testing.T) {
 	}
 }
 
+// lookedAt is a store of one ring at which that many came to take, and found
+// nothing.
+func lookedAt(round, most, times int64) impl.Store {
+	s := linkedStore(round, most, -1)
+	s.Rings[0].Head, s.Rings[0].Tail = times, times
+	for ticket := range times {
+		s.Rings[0].Places[ticket%round].No = ticket + round
+	}
+	return s
+}
+
 func TestTakeAloneOfAnEmptyStore(t *testing.T) {
 	for round := int64(2); round <= 8; round++ {
 		for _, most := range []int64{1, 2, mostRings} {
@@ -436,12 +447,7 @@ func TestTakeAloneOfAnEmptyStore(t *testing.T) {
 			for n := range int64(20) {
 				var reply, value int64
 				s, reply, value = impl.TakeAlone(s)
-				want := linkedStore(round, most, -1)
-				want.Rings[0].Head, want.Rings[0].Tail = n+1, n+1
-				for ticket := range n + 1 {
-					want.Rings[0].Places[ticket%round].No = ticket + round
-				}
-				checkTaken(t, "empty", s, reply, value, want, impl.ReEmpty, 0)
+				checkTaken(t, "empty", s, reply, value, lookedAt(round, most, n+1), impl.ReEmpty, 0)
 			}
 		}
 	}
